@@ -1,0 +1,1 @@
+"""Treemove: one tree of folders, moved about by many hands."""
