@@ -15,7 +15,17 @@ FUNCTIONS = {
               "closes": ["tree", "folder", "under"], "put": ["tree", "folder", "under"],
               "children": ["tree", "folder"], "rows": ["tree"]},
 }
-CLASSES = {"errors": ["TreeError", "NoMove", "TooLate", "Clash", "NoHand"]}
+CLASSES = {"errors": ["TreeError", "NoMove", "TooLate", "Clash", "NoHand"],
+           "logs": ["Log"], "hands": ["Hand"], "rooms": ["Room"]}
+# Each class that has methods, under its file: what it is created of, its fields, its methods with their arguments.
+OBJECTS = {
+    "logs": ("Log", [], ["since"], {"hear": ["move"], "moves": [], "tree": [], "steps": [], "settle": ["time"]}),
+    "hands": ("Hand", ["number"], ["number", "clock", "log"],
+              {"move": ["folder", "under"], "hear": ["move"], "tree": [], "settle": ["time"]}),
+    "rooms": ("Room", ["many"], ["hands"],
+              {"move": ["number", "folder", "under"], "waiting": ["number"], "carry": ["number", "place"],
+               "double": ["number", "place"], "settle": []}),
+}
 
 
 def sources():
@@ -41,6 +51,21 @@ class Interface(unittest.TestCase):
                     found = getattr(module, wanted)
                     self.assertTrue(inspect.isclass(found))
                     self.assertEqual(found.__module__, module.__name__)
+
+    def test_each_method_stands_in_its_class_itself_with_its_arguments(self):
+        for name, (wanted, _, _, methods) in OBJECTS.items():
+            found = getattr(importlib.import_module("treemove." + name), wanted)
+            for method, arguments in methods.items():
+                with self.subTest(wanted=wanted, method=method):
+                    self.assertTrue(inspect.isfunction(vars(found).get(method)))
+                    self.assertEqual(list(inspect.signature(vars(found)[method]).parameters)[1:], arguments)
+
+    def test_each_field_is_set_when_the_object_is_created(self):
+        for name, (wanted, arguments, fields, _) in OBJECTS.items():
+            found = getattr(importlib.import_module("treemove." + name), wanted)
+            with self.subTest(wanted=wanted):
+                self.assertEqual(list(inspect.signature(found).parameters), arguments)
+                self.assertLessEqual(set(fields), set(vars(found(*[1] * len(arguments)))))
 
 
 class Files(unittest.TestCase):
